@@ -1,0 +1,1 @@
+"""Foldedways: words that cancel, and what some of them make."""

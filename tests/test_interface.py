@@ -1,0 +1,45 @@
+"""The interface: each name stands, with its arguments, in the file under which it is listed."""
+
+from importlib import import_module
+from inspect import isclass, isfunction, signature
+from unittest import TestCase
+
+FUNCTIONS = {
+    "words": {
+        "is_word": "value, rank", "reduced": "word", "inverse": "word", "joined": "first, second",
+        "cancelled": "first, second", "power": "word, number", "compare": "first, second",
+        "count_reduced": "rank, length", "nth_reduced": "rank, index", "index_of_reduced": "rank, word",
+    },
+    "roots": {
+        "core": "word", "root": "word", "commute": "first, second", "common_root": "first, second",
+        "turned_form": "word", "turning_word": "first, second",
+    },
+}
+ERRORS = {
+    "BadValue": "name", "TooLarge": "what", "NotPossible": "why", "TextError": "column, words",
+}
+
+
+def parameters(called):
+    """Return the names of the parameters, as a text."""
+    return ", ".join(signature(called).parameters)
+
+
+class Interface(TestCase):
+    def test_functions(self):
+        for file, functions in FUNCTIONS.items():
+            module = import_module("foldedways." + file)
+            for name, told in functions.items():
+                with self.subTest(file=file, name=name):
+                    function = getattr(module, name)
+                    self.assertTrue(isfunction(function))
+                    self.assertEqual(function.__module__, "foldedways." + file)
+                    self.assertEqual(parameters(function), told)
+
+    def test_error_classes(self):
+        module = import_module("foldedways.errors")
+        self.assertTrue(isclass(module.WaysError))
+        for name, told in ERRORS.items():
+            error = getattr(module, name)
+            self.assertEqual(error.__module__, "foldedways.errors")
+            self.assertEqual(parameters(error), told)

@@ -1,0 +1,44 @@
+"""Values of wrong kinds, and the check that a function names the first wrong argument."""
+
+from foldedways.errors import BadValue, WaysError
+
+NO_INTEGERS = (None, True, False, "1", "", 1.0, b"1", (1,), [1], {1: 1}, {1}, object())
+NO_STRINGS = (None, 0, 1, -1, True, False, 1.5, b"", b"a", (), ("a",), [], ["a"], {}, {"a": "a"}, {"a"}, object())
+NO_TUPLES = (None, 0, 1, -1, True, False, 1.5, "", "aa", b"aa", [], {}, set(), object())
+NO_RANKS = NO_INTEGERS + (0, 4, -1, -2, 5, 100, 10 ** 30)
+NO_LETTERS = (
+    "x", "d", "D", "1", " ", ".", "a b", "ab ", " a", "a\n", "\n", "a-", "\u00e4", "a\u0410", "\x00", "\ud800")
+
+
+def no_words(rank):
+    """Return values that are no words of the rank."""
+    beyond = {1: ("b", "B", "aab", "c", "aC"), 2: ("c", "C", "abC"), 3: ()}[rank]
+    return NO_STRINGS + NO_LETTERS + beyond + ("a" * 25, "aA" * 13, "aA" * 500)
+
+
+def no_integers(least, most):
+    """Return values that are no integers within the bounds."""
+    return NO_INTEGERS + (least - 1, most + 1, least - 1000, most + 1000, -10 ** 30, 10 ** 30)
+
+
+def check_wrong_arguments(case, function, *parameters):
+    """Check each argument wrong in turn: alone, and with all later ones wrong, too.
+
+    A parameter is (name, good value, wrong values).
+    """
+    good = [right for _, right, _ in parameters]
+    function(*good)
+    for at, (name, _, wrong_values) in enumerate(parameters):
+        for turn, wrong in enumerate(wrong_values):
+            later = [values[turn % len(values)] for _, _, values in parameters[at + 1:]]
+            for behind in (good[at + 1:], later):
+                check_name(case, name, function, good[:at] + [wrong] + behind)
+
+
+def check_name(case, name, function, arguments):
+    """Check that the call raises BadValue with this name."""
+    with case.subTest(function=function.__name__, arguments=arguments):
+        with case.assertRaises(WaysError) as caught:
+            function(*arguments)
+        case.assertIs(caught.exception.__class__, BadValue)
+        case.assertEqual(caught.exception.name, name)
