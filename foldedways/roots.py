@@ -28,14 +28,13 @@ def root(word):
 def root_of(whole):
     """Return the pair of the root and the greatest power of a reduced word."""
     outer, middle = parts_of(whole)
-    if not middle:
-        return "", 0
+    # The empty core has the size 1, too, so the empty word gets the empty root and the power 0.
     size = period_of(middle)
     return outer + middle[:size] + backwards(outer), len(middle) // size
 
 
 def period_of(middle):
-    """Return the least number of letters that, repeated, make the whole of a core."""
+    """Return the least number of letters, from 1 on, that, repeated, make the whole of a core."""
     size = 1
     while middle[:size] * (len(middle) // size) != middle:
         size += 1
@@ -81,23 +80,12 @@ def turning_word(first, second):
     check_word(second, HIGHEST_RANK, "second")
     outer, middle = parts_of(folded(first))
     outer_goal, goal = parts_of(folded(second))
-    if len(middle) != len(goal):
-        return None
-    if not middle:
-        return ""
-    size = period_of(middle)
-    for many in range(size):
+    base = middle[:period_of(middle)]
+    for many in range(len(base)):
         if turned(middle, many) == goal:
-            return shortest_turning(outer, middle[:size], middle[:many], outer_goal)
-    return None
-
-
-def shortest_turning(outer, base, start, outer_goal):
-    """Return the first of the words made of outer, a power of base, start, and the inverse of outer_goal."""
-    # Exactly these words turn the one word into the other. A power with a greater number
-    # cannot make a word that is as short as the one with the number 0.
-    most = 2 * (len(outer) + len(start) + len(outer_goal)) // len(base) + 1
-    ends = start + backwards(outer_goal)
-    forwards = [folded(outer + base * number + ends) for number in range(most + 1)]
-    others = [folded(outer + backwards(base) * number + ends) for number in range(1, most + 1)]
-    return min(forwards + others, key=length_order)
+            # Words that turn the one into the other differ by a power of the root. Going round
+            # further than to the goal, forwards or backwards, only makes them longer.
+            ways = [base[:many], backwards(base[many:])]
+            return min([folded(outer + way + backwards(outer_goal)) for way in ways], key=length_order)
+    # Only empty cores can still be equal here.
+    return "" if middle == goal else None

@@ -14,6 +14,16 @@ FUNCTIONS = {
         "core": "word", "root": "word", "commute": "first, second", "common_root": "first, second",
         "turned_form": "word", "turning_word": "first, second",
     },
+    "actions": {
+        "is_action": "value, rank", "image": "action, point, word", "returns": "action, word", "orbit": "action",
+        "first_words": "action", "restricted": "action", "least_power": "action, word",
+    },
+    "telling": {"telling_word": "first, second", "tells_apart": "first, second, word"},
+    "folding": {"is_family": "value", "identified": "family"},
+    "graphs": {
+        "graph_of": "family", "is_neat": "rank, value", "walk": "family, word", "belongs": "family, word",
+        "paths": "family",
+    },
 }
 ERRORS = {
     "BadValue": "name", "TooLarge": "what", "NotPossible": "why", "TextError": "column, words",
