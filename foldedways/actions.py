@@ -1,6 +1,6 @@
 """Actions: letters that exchange points."""
 
-from foldedways.checks import HIGHEST_RANK, check_integer, check_word, is_integer
+from foldedways.checks import HIGHEST_RANK, check_integer, check_word, is_integer, is_tuple
 from foldedways.errors import BadValue
 from foldedways.letters import SMALL_LETTERS, letters_of
 from foldedways.moves import first_ways, follow, moves_along
@@ -10,7 +10,7 @@ MOST_POINTS = 60
 
 def is_action(value, rank):
     """Return True if the value is an action of the rank, otherwise False."""
-    if not isinstance(value, tuple) or len(value) != rank:
+    if not is_tuple(value, rank):
         return False
     if not all([isinstance(row, tuple) for row in value]):
         return False
@@ -83,6 +83,11 @@ def least_power(action, word):
     """Return the least number, from 1 on, of times that the word, joined, returns in the action."""
     check_action(action, "action")
     check_word(word, len(action), "word")
+    return times_to_return(action, word)
+
+
+def times_to_return(action, word):
+    """Return how often at least a word of any length has to be joined, from 1 on, to return in an action."""
     moves = moves_of(action)
     many = 1
     point = follow(moves, 0, word)

@@ -1,6 +1,6 @@
 """Families, their points, and which points are identified."""
 
-from foldedways.checks import is_rank, is_spelled
+from foldedways.checks import is_rank, is_spelled, is_tuple
 from foldedways.errors import BadValue
 from foldedways.letters import SMALL_LETTERS, folded, opposite
 
@@ -10,7 +10,7 @@ MOST_GIVEN_LETTERS = 8
 
 def is_family(value):
     """Return True if the value is a family, otherwise False."""
-    if not isinstance(value, tuple) or len(value) != 2:
+    if not is_tuple(value, 2):
         return False
     rank, given = value
     if not is_rank(rank) or not isinstance(given, tuple) or len(given) > MOST_GIVEN:

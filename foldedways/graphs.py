@@ -1,6 +1,6 @@
 """The folded graph of a family, and the words that are walked in it."""
 
-from foldedways.checks import check_rank, check_word, is_integer
+from foldedways.checks import check_rank, check_word, is_integer, is_tuple
 from foldedways.folding import check_family, least_points, petals_of
 from foldedways.letters import folded, letters_of, small_letters_of
 from foldedways.moves import first_ways, follow, moves_along
@@ -46,7 +46,7 @@ def is_neat(rank, value):
 
 def is_graph(rank, value):
     """Return True if the value is a graph of the rank with enough edges for its vertices, otherwise False."""
-    if not isinstance(value, tuple) or len(value) != 2:
+    if not is_tuple(value, 2):
         return False
     vertices, edges = value
     # To reach a further vertex takes a further edge, so more vertices than this are never neat.
@@ -59,7 +59,7 @@ def is_graph(rank, value):
 
 def is_edge(rank, vertices, value):
     """Return True if the value is an edge between such vertices with a letter of the rank, otherwise False."""
-    if not isinstance(value, tuple) or len(value) != 3:
+    if not is_tuple(value, 3):
         return False
     start, letter, end = value
     if not is_integer(start, 0, vertices - 1) or not is_integer(end, 0, vertices - 1):
@@ -71,6 +71,11 @@ def walk(family, word):
     """Return the vertex to which the reduced form of the word leads from 0, or None if it leaves the graph."""
     check_family(family)
     check_word(word, family[0], "word")
+    return goal_of(family, word)
+
+
+def goal_of(family, word):
+    """Return the vertex to which the reduced form of a word of any length leads from 0, or None."""
     _, edges = folded_graph(family)
     return follow(moves_along(edges), 0, folded(word))
 
@@ -82,5 +87,10 @@ def belongs(family, word):
 
 def paths(family):
     """Return the tuple of the paths to the vertices, in the sequence of their numbers."""
-    _, edges = graph_of(family)
-    return tuple(first_ways(moves_along(edges), letters_of(family[0]), 0).values())
+    check_family(family)
+    return tuple(paths_in(family[0], folded_graph(family)))
+
+
+def paths_in(rank, graph):
+    """Return the list of the paths to the vertices of a neat graph, in the sequence of their numbers."""
+    return list(first_ways(moves_along(graph[1]), letters_of(rank), 0).values())

@@ -22,8 +22,9 @@ def opposite(letter):
 def folded(word):
     """Return the reduced form of the word."""
     kept = []
-    for letter in word:
-        if kept and kept[-1] == opposite(letter):
+    # All opposite letters at once: derivations make words of many thousand letters.
+    for letter, other in zip(word, word.swapcase()):
+        if kept and kept[-1] == other:
             kept.pop()
         else:
             kept.append(letter)

@@ -94,24 +94,6 @@ def plain_walk(graph, start, word):
     return vertex
 
 
-def plain_action_against(family, graph, word):
-    """Attach a word to the graph and complete it to permutations, as evidence that the word does not belong."""
-    points, edges = graph[0], list(graph[1])
-    vertex = 0
-    for letter in plain_reduced(word):
-        goals = step(edges, vertex, letter)
-        if not goals:
-            edges.append((vertex, letter, points) if letter.islower() else (points, letter.lower(), vertex))
-            goals, points = [points], points + 1
-        vertex = goals[0]
-    rows = []
-    for letter in "abc"[:family[0]]:
-        images = {start: end for start, told, end in edges if told == letter}
-        free = [point for point in range(points) if point not in images.values()]
-        rows.append(tuple(images[point] if point in images else free.pop() for point in range(points)))
-    return tuple(rows)
-
-
 def loops_of(rank, graph):
     """Return words that make the graph: one for each edge, to it from 0, along it, and back to 0."""
     ways = {0: ""}

@@ -4,7 +4,11 @@ from doctest import DocTestParser, DocTestRunner
 from unittest import TestCase
 
 from foldedways.actions import image, least_power
-from foldedways.graphs import graph_of
+from foldedways.answers import answer_for
+from foldedways.completing import attached, full_action, further_words
+from foldedways.derivations import accepts_derivation, derivation_for, expansion
+from foldedways.graphs import graph_of, paths
+from foldedways.parting import accepts_parting, evidence_for, parted
 from foldedways.roots import core, root
 from foldedways.words import reduced
 
@@ -52,6 +56,52 @@ FOLDING_AND_GRAPHS = """
 >>> is_neat(2, graph_of(squares)), is_neat(2, (2, ((0, "a", 1),))), is_neat(1, (1, ()))
 (True, False, True)
 """
+DERIVATIONS = """
+>>> from foldedways.derivations import accepts_derivation, derivation_for, expansion, inverted, joined, trimmed
+>>> family = (2, ("ab", "b"))
+>>> by_hand = (("ab", (("given", 0, 1),)), ("b", (("given", 1, 1),)), ("a", (("step", 0, 1), ("step", 1, -1))))
+>>> accepts_derivation(family, "a", by_hand), accepts_derivation(family, "abB", by_hand), accepts_derivation(family, "b", by_hand)
+(True, True, False)
+>>> expansion(family, by_hand), trimmed(family, by_hand) == by_hand
+(((0, 1), (1, -1)), True)
+>>> inverted(family, by_hand)[3], joined(family, by_hand, by_hand)[6]
+(('A', (('step', 2, -1),)), ('aa', (('step', 2, 1), ('step', 5, 1))))
+>>> trimmed(family, by_hand + (("bb", (("step", 1, 1), ("step", 1, 1))),))
+(('b', (('given', 1, 1),)), ('bb', (('step', 0, 1), ('step', 0, 1))))
+>>> accepts_derivation(family, "a", derivation_for(family, "a")), derivation_for((2, ("aa",)), "a") is None
+(True, True)
+"""
+COMPLETING = """
+>>> from foldedways.completing import accepts_action, action_against, attached, full_action, further_words
+>>> family = (2, ("aa", "bb"))
+>>> full_action(family), further_words(family)
+(((1, 0, 2), (2, 1, 0)), ('abA', 'baB'))
+>>> attached(family, "ab")
+((4, ((0, 'a', 1), (0, 'b', 2), (1, 'a', 0), (1, 'b', 3), (2, 'b', 0))), 3)
+>>> action_against(family, "ab")
+((1, 0, 2, 3), (2, 3, 0, 1))
+>>> action_against(family, "aaBB") is None
+True
+>>> accepts_action(family, "a", ((1, 0, 2), (2, 1, 0))), accepts_action(family, "aa", ((1, 0, 2), (2, 1, 0)))
+(True, False)
+>>> full_action((1, ())), further_words((1, ())), action_against((1, ()), "a")
+(((0,),), ('a',), ((1, 0),))
+"""
+ANSWERS_AND_PARTING = """
+>>> from foldedways.answers import accepts_answer, answer_for
+>>> from foldedways.parting import accepts_parting, evidence_for, parted, told_against_all
+>>> family = (2, ("aa", "bb"))
+>>> answer_for(family, "abba")[0], answer_for(family, "a")
+('none', ('none', ((1, 0, 2), (2, 1, 0))))
+>>> answer_for(family, "aabb")[0], accepts_answer(family, "aabb", ("member", (("aabb", (("given", 0, 1), ("given", 1, 1))),)))
+('member', True)
+>>> accepts_answer(family, "aabb", ("none", ((1, 0, 2), (2, 1, 0)))), accepts_answer(family, "ab", ("none", ((1, 0, 2), (0, 2, 1))))
+(False, True)
+>>> told_against_all(family, ("a", "b", "ab"))
+((1, 0, 2, 3), (2, 3, 0, 1))
+>>> parted(family, ("a", "aa", "BB")), accepts_parting(family, ("a", "aa"), ((1,), (0,)), evidence_for(family, ("a", "aa")))
+(((1, 2), (0,)), True)
+"""
 
 
 def run_examples(case, text):
@@ -73,6 +123,15 @@ class Interface(TestCase):
     def test_folding_and_graphs(self):
         run_examples(self, FOLDING_AND_GRAPHS)
 
+    def test_derivations(self):
+        run_examples(self, DERIVATIONS)
+
+    def test_completing(self):
+        run_examples(self, COMPLETING)
+
+    def test_answers_and_parting(self):
+        run_examples(self, ANSWERS_AND_PARTING)
+
 
 class Chapters(TestCase):
     def test_point_19(self):
@@ -89,3 +148,27 @@ class Chapters(TestCase):
         self.assertEqual(graph_of((2, ("aa", "bb")))[0], 3)
         self.assertEqual(graph_of((1, ("aaaa", "aaaaaa")))[0], 2)
         self.assertEqual(graph_of((1, ("aaaa", "aaaaaa"))), graph_of((1, ("aa",))))
+
+    def test_point_52(self):
+        family = (2, ("ab", "b"))
+        value = derivation_for(family, "a")
+        self.assertIs(accepts_derivation(family, "a", value), True)
+        self.assertEqual(expansion(family, value), ((0, 1), (1, -1)))
+
+    def test_point_62(self):
+        family = (2, ("aa", "bb"))
+        self.assertEqual(paths(family), ("", "a", "b"))
+        self.assertEqual(full_action(family), ((1, 0, 2), (2, 1, 0)))
+        self.assertEqual(further_words(family), ("abA", "baB"))
+        (vertices, edges), end = attached(family, "ab")
+        self.assertEqual((vertices, end), (4, 3))
+        self.assertIn((1, "b", 3), edges)
+
+    def test_point_70(self):
+        family = (2, ("aa", "bb"))
+        self.assertEqual(answer_for(family, "aabb")[0], "member")
+        self.assertEqual(answer_for(family, "abba")[0], "none")
+        self.assertNotIn((1, "b"), [(start, letter) for start, letter, _ in graph_of(family)[1]])
+        self.assertEqual(parted(family, ("a", "b", "ab")), ((), (0, 1, 2)))
+        evidence = evidence_for(family, ("a", "b", "ab"))
+        self.assertIs(accepts_parting(family, ("a", "b", "ab"), ((), (0, 1, 2)), evidence), True)

@@ -30,8 +30,9 @@ BUILTINS = set("""
     len range enumerate zip min max sum abs sorted reversed int str bool list tuple dict isinstance any all
     ValueError
 """.split())
-METHODS = set("append count extend get index items join keys pop swapcase values".split())
-MODIFYING = set("append extend pop".split())
+METHODS = set("append count extend get index items join keys pop setdefault swapcase values".split())
+MODIFYING = set("append extend pop setdefault".split())
+CLASSES = {"errors": "WaysError BadValue TooLarge NotPossible TextError".split(), "linking": ["Linking"]}
 LAZY = {"range", "enumerate", "zip", "reversed", "items", "keys", "values"}
 TAKES_LAZY = {"list", "tuple", "dict", "sorted", "sum", "any", "all", "enumerate", "zip", "min", "max"}
 BARRED_NAMES = set("""
@@ -84,6 +85,17 @@ def bound_at_top(name):
         else:
             bound += targets_of(statement)
     return bound
+
+
+def methods_of(node):
+    """Return the methods of a class."""
+    return [below for below in node.body if isinstance(below, ast.FunctionDef)]
+
+
+def attributes_assigned(function):
+    """Return the attributes that a method assigns to its own object."""
+    return [below.attr for below in ast.walk(function) if isinstance(below, ast.Attribute)
+            and isinstance(below.ctx, ast.Store) and ast.unparse(below.value) == "self"]
 
 
 def is_docstring(node):
@@ -162,17 +174,38 @@ class Form(TestCase):
                 self.assertEqual([below for below in ast.walk(node) if isinstance(below, ast.FunctionDef)], [node])
 
     def test_l5_l18_and_l19_classes(self):
+        for name in TREES:
+            self.assertEqual([node.name for node in nodes_of(name, ast.ClassDef)], CLASSES.get(name, []))
         for name, node in each(ast.ClassDef):
             with self.at(name, node):
-                self.assertEqual(name, "errors")
-                self.assertIn([base.id for base in node.bases], (["ValueError"], ["WaysError"]))
                 self.assertFalse(node.decorator_list or node.keywords)
                 self.assertTrue(is_docstring(node.body[0]))
-                self.assertIn([getattr(below, "name", None) for below in node.body[1:]], ([], ["__init__"]))
+                methods = methods_of(node)
+                self.assertEqual(methods, node.body[1:])
+                if name == "errors":
+                    self.assertIn([base.id for base in node.bases], (["ValueError"], ["WaysError"]))
+                    self.assertIn([below.name for below in methods], ([], ["__init__"]))
+                else:
+                    self.assertFalse(node.bases)
+                    self.check_methods(methods)
         for name, node in each(ast.Raise):
             with self.at(name, node):
                 self.assertIsNone(node.cause)
                 self.assertIn(called_name(node.exc), bound_at_top("errors"))
+
+    def check_methods(self, methods):
+        """Check the methods of a class that is no error class."""
+        names = [below.name for below in methods]
+        attributes = {told for below in methods for told in attributes_assigned(below)}
+        self.assertEqual(names, list(dict.fromkeys(names)))
+        self.assertEqual(names[0], "__init__")
+        self.assertFalse(attributes & set(names))
+        for told in names[1:] + sorted(attributes):
+            self.assertFalse([kind for kind in (str, int, list, dict, set, tuple, bytes) if hasattr(kind, told)])
+        for below in methods:
+            self.assertEqual(below.args.args[0].arg, "self")
+            self.assertNotIn("self", targets_of(below))
+        self.assertFalse([below for below in ast.walk(methods[0]) if isinstance(below, ast.Return)])
 
     def test_l15_one_binding_for_each_name(self):
         for name in TREES:
@@ -218,11 +251,14 @@ class Form(TestCase):
         for name, node in each(ast.Attribute):
             with self.at(name, node):
                 above = ABOVE[node]
-                if isinstance(above, ast.Call) and node is above.func:
-                    self.assertIn(node.attr, METHODS)
-                else:
-                    self.assertEqual(name, "errors")
-                    self.assertEqual(node.value.id, "self")
+                if isinstance(above, ast.Call) and node is above.func and node.attr in METHODS:
+                    continue
+                self.assertIn(name, CLASSES)
+                self.assertIsInstance(node.value, ast.Name)
+                methods = [below for told in nodes_of(name, ast.ClassDef) for below in methods_of(told)]
+                attributes = [told for below in methods for told in attributes_assigned(below)]
+                called = isinstance(above, ast.Call) and node is above.func
+                self.assertIn(node.attr, [below.name for below in methods] if called else attributes)
         for name, node in each(ast.Call):
             with self.at(name, node):
                 if called_name(node) == "join":
@@ -234,6 +270,8 @@ class Form(TestCase):
                 if called_name(node) not in LAZY:
                     continue
                 above = ABOVE[node]
+                if called_name(node) == "range" and called_name(above) == "reversed":
+                    continue
                 if isinstance(above, ast.Call):
                     self.assertIn(called_name(above), TAKES_LAZY)
                     self.assertIs(node, above.args[0])
@@ -244,7 +282,8 @@ class Form(TestCase):
     def test_l23_what_a_loop_goes_over_is_not_modified(self):
         for name, loop in each(ast.For):
             with self.at(name, loop):
-                gone_over = {node.id for node in ast.walk(loop.iter) if isinstance(node, ast.Name)}
+                parts = [node for node in ast.walk(loop.iter) if isinstance(node, (ast.Name, ast.Attribute))]
+                gone_over = {ast.unparse(node) for node in parts} - {"self"}
                 for node in [below for statement in loop.body for below in ast.walk(statement)]:
                     if called_name(node) in MODIFYING and isinstance(node.func, ast.Attribute):
                         self.assertNotIn(ast.unparse(node.func.value), gone_over)

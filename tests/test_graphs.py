@@ -9,8 +9,8 @@ from foldedways.actions import is_action, returns
 from foldedways.graphs import belongs, graph_of, is_neat, paths, walk
 from tests.plain import (
     LETTERS, all_reduced, all_words, by_length, is_reduced, plain_inverse, plain_reduced, some_words)
-from tests.plain_graphs import (
-    loops_of, plain_action_against, plain_graph, plain_numbered, plain_walk, some_families, step)
+from tests.plain_completing import plain_attached, plain_completed
+from tests.plain_graphs import loops_of, plain_graph, plain_numbered, plain_walk, some_families, step
 from tests.test_folding import EDGES, FAMILIES, NO_FAMILIES
 from tests.wrong import NO_RANKS, NO_TUPLES, check_wrong_arguments, no_words
 
@@ -152,7 +152,7 @@ class Belongs(TestCase):
             graph = graph_of(family)
             for word in some_words(12, family[0], 12, 36):
                 if not belongs(family, word):
-                    action = plain_action_against(family, graph, word)
+                    action = plain_completed(family[0], plain_attached(graph, word)[0])
                     self.assertTrue(is_action(action, family[0]))
                     self.assertTrue(all(returns(action, given) for given in family[1]))
                     self.assertFalse(returns(action, word))

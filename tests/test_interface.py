@@ -24,6 +24,19 @@ FUNCTIONS = {
         "graph_of": "family", "is_neat": "rank, value", "walk": "family, word", "belongs": "family, word",
         "paths": "family",
     },
+    "derivations": {
+        "accepts_derivation": "family, word, value", "derivation_for": "family, word", "expansion": "family, value",
+        "trimmed": "family, value", "joined": "family, first, second", "inverted": "family, value",
+    },
+    "completing": {
+        "attached": "family, word", "full_action": "family", "action_against": "family, word",
+        "accepts_action": "family, word, value", "further_words": "family",
+    },
+    "answers": {"answer_for": "family, word", "accepts_answer": "family, word, value"},
+    "parting": {
+        "told_against_all": "family, words", "parted": "family, words", "evidence_for": "family, words",
+        "accepts_parting": "family, words, parting, evidence",
+    },
 }
 ERRORS = {
     "BadValue": "name", "TooLarge": "what", "NotPossible": "why", "TextError": "column, words",

@@ -42,3 +42,57 @@ def check_name(case, name, function, arguments):
             function(*arguments)
         case.assertIs(caught.exception.__class__, BadValue)
         case.assertEqual(caught.exception.name, name)
+
+
+class Unequal:
+    """A value that cannot be compared: a judge has to look at its kind first."""
+
+    __hash__ = None
+
+    def __eq__(self, other):
+        raise AssertionError("a value of another kind is compared")
+
+
+# None of these can stand anywhere in a derivation, an action, a graph or an expression.
+NEVER = (
+    True, False, 1.0, 0.0, -1.0, "x", "a\n", "Given", b"a", b"", -2, 1000, 10 ** 30, [], {}, set(), {"a": 1}, Unequal())
+
+
+def part_by_part(value, others):
+    """List the versions of a value of nested tuples in which one part, or all of it, is replaced by another value."""
+    versions = list(others)
+    if isinstance(value, tuple):
+        for at, part in enumerate(value):
+            versions += [value[:at] + (other,) + value[at + 1:] for other in part_by_part(part, others)]
+    return versions
+
+
+def with_lists(value):
+    """List the versions of a value of nested tuples in which one tuple is replaced by a list."""
+    versions = []
+    if isinstance(value, tuple):
+        versions.append(list(value))
+        for at, part in enumerate(value):
+            versions += [value[:at] + (other,) + value[at + 1:] for other in with_lists(part)]
+    return versions
+
+
+def without_a_part(value):
+    """List the versions of a value of nested tuples with one part left out, or put twice."""
+    versions = []
+    if isinstance(value, tuple):
+        for at, part in enumerate(value):
+            versions += [value[:at] + value[at + 1:], value[:at + 1] + value[at:]]
+            versions += [value[:at] + (other,) + value[at + 1:] for other in without_a_part(part)]
+    return versions
+
+
+def check_odd_forms(case, judge, value):
+    """Check that the judge returns True for the value, and False for all versions of wrong kinds."""
+    case.assertIs(judge(value), True)
+    for version in part_by_part(value, NEVER) + with_lists(value):
+        with case.subTest(version=version):
+            case.assertIs(judge(version), False)
+    for other in NO_TUPLES + ((), ((),), ((), ()), ((), None), (None, None), ("member",), ("none", "member"), (value,)):
+        with case.subTest(version=other):
+            case.assertIs(judge(other), False)
