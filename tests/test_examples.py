@@ -5,9 +5,12 @@ from unittest import TestCase
 
 from foldedways.actions import image, least_power
 from foldedways.answers import answer_for
+from foldedways.bases import basis, smallest_choice
+from foldedways.classes import are_in_one_class, count_classes, first_words
 from foldedways.completing import attached, full_action, further_words
 from foldedways.derivations import accepts_derivation, derivation_for, expansion
 from foldedways.graphs import graph_of, paths
+from foldedways.members import first_members
 from foldedways.parting import accepts_parting, evidence_for, parted
 from foldedways.roots import core, root
 from foldedways.words import reduced
@@ -102,6 +105,40 @@ ANSWERS_AND_PARTING = """
 >>> parted(family, ("a", "aa", "BB")), accepts_parting(family, ("a", "aa"), ((1,), (0,)), evidence_for(family, ("a", "aa")))
 (((1, 2), (0,)), True)
 """
+BASES = """
+>>> from foldedways.bases import accepts_basis, basis, basis_evidence, expression_of, is_basis, is_choice, smallest_choice, value_of
+>>> family = (2, ("aa", "ab", "bb"))
+>>> basis(family), expression_of(family, "bb"), expression_of(family, "aba") is None
+(('bA', 'aa', 'ab'), ((0, 1), (2, 1)), True)
+>>> value_of(family, ((0, -1), (1, 1), (0, 1), (0, -1))), smallest_choice(family), is_choice(family, (0, 1))
+('aBaa', (0, 1, 2), False)
+>>> basis((1, ("aa", "aaa"))), smallest_choice((1, ("aa", "aaa"))), smallest_choice((1, ("aaaa", "aaaaaa", "aa")))
+(('a',), (0, 1), (2,))
+>>> is_basis(family, ("aa", "ab", "bb")), is_basis((1, ("aa", "aaa")), ("aa", "aaa"))
+(True, False)
+>>> accepts_basis(family, ("aB", "aa", "bb"), basis_evidence(family, ("aB", "aa", "bb")))
+True
+"""
+MEMBERS_AND_CLASSES = """
+>>> from foldedways.classes import accepts_classes, are_in_one_class, class_grounds, count_classes, first_words
+>>> from foldedways.members import accepts_power, count_members, count_up_to, first_members, index_of_member, least_power, nth_member, power_evidence
+>>> squares = (2, ("aa", "bb"))
+>>> even = (2, ("aa", "ab", "bb"))
+>>> [count_members(squares, length) for length in range(5)], [count_members(even, length) for length in range(5)]
+([1, 0, 4, 0, 12], [1, 0, 12, 0, 108])
+>>> first_members(squares, 6), nth_member(squares, 7), index_of_member(squares, "bbaa"), count_up_to(squares, 4)
+(['', 'aa', 'AA', 'bb', 'BB', 'aaaa'], 'aaBB', 11, 17)
+>>> count_classes(squares) is None, count_classes(even), first_words(even)
+(True, 2, ('', 'a'))
+>>> are_in_one_class(even, "a", "bbb"), are_in_one_class(squares, "ab", "ba")
+(True, False)
+>>> least_power(squares, "abaBA"), least_power(even, "aba"), least_power(squares, "ab") is None
+(None, 2, True)
+>>> accepts_power(even, "aba", 2, power_evidence(even, "aba")), accepts_power(even, "aba", 2, (((), ()), ((1, 0), (1, 0))))
+(True, False)
+>>> accepts_classes(even, class_grounds(even)), accepts_classes(squares, class_grounds(even))
+(True, False)
+"""
 
 
 def run_examples(case, text):
@@ -131,6 +168,12 @@ class Interface(TestCase):
 
     def test_answers_and_parting(self):
         run_examples(self, ANSWERS_AND_PARTING)
+
+    def test_bases(self):
+        run_examples(self, BASES)
+
+    def test_members_and_classes(self):
+        run_examples(self, MEMBERS_AND_CLASSES)
 
 
 class Chapters(TestCase):
@@ -172,3 +215,20 @@ class Chapters(TestCase):
         self.assertEqual(parted(family, ("a", "b", "ab")), ((), (0, 1, 2)))
         evidence = evidence_for(family, ("a", "b", "ab"))
         self.assertIs(accepts_parting(family, ("a", "b", "ab"), ((), (0, 1, 2)), evidence), True)
+
+    def test_point_81(self):
+        family = (2, ("aa", "ab", "bb"))
+        vertices, edges = graph_of(family)
+        self.assertEqual((vertices, len(edges)), (2, 4))
+        self.assertEqual((paths(family), basis(family)), (("", "a"), ("bA", "aa", "ab")))
+        self.assertEqual(basis((1, ("aa", "aaa"))), ("a",))
+        self.assertEqual(smallest_choice((1, ("aa", "aaa"))), (0, 1))
+
+    def test_point_92(self):
+        family = (2, ("aa", "bb"))
+        self.assertIs(count_classes(family), None)
+        self.assertEqual([word for word in first_members(family, 20) if len(word) == 2], ["aa", "AA", "bb", "BB"])
+        more = (2, ("aa", "bb", "ab"))
+        self.assertEqual((count_classes(more), first_words(more)), (2, ("", "a")))
+        for word in ("", "ab", "aBaB", "bA", "a", "abA", "BBB"):
+            self.assertIs(are_in_one_class(more, word, ""), len(word) % 2 == 0)

@@ -37,6 +37,20 @@ FUNCTIONS = {
         "told_against_all": "family, words", "parted": "family, words", "evidence_for": "family, words",
         "accepts_parting": "family, words, parting, evidence",
     },
+    "bases": {
+        "basis": "family", "expression_of": "family, word", "value_of": "family, expression",
+        "is_choice": "family, chosen", "smallest_choice": "family", "is_basis": "family, words",
+        "basis_evidence": "family, words", "accepts_basis": "family, words, value",
+    },
+    "members": {
+        "count_members": "family, length", "count_up_to": "family, length", "nth_member": "family, index",
+        "index_of_member": "family, word", "first_members": "family, many", "least_power": "family, word",
+        "power_evidence": "family, word", "accepts_power": "family, word, many, value",
+    },
+    "classes": {
+        "count_classes": "family", "first_words": "family", "are_in_one_class": "family, first, second",
+        "class_grounds": "family", "accepts_classes": "family, value",
+    },
 }
 ERRORS = {
     "BadValue": "name", "TooLarge": "what", "NotPossible": "why", "TextError": "column, words",
