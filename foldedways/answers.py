@@ -18,6 +18,11 @@ def accepts_answer(family, word, value):
     """Return True if the value is an answer that is accepted for the word, otherwise False."""
     check_family(family)
     check_word(word, family[0], "word")
+    return is_answer(family, word, value)
+
+
+def is_answer(family, word, value):
+    """Return True if the value is an answer that is accepted for a word of any length, otherwise False."""
     if not is_tuple(value, 2) or not isinstance(value[0], str):
         return False
     kind, evidence = value

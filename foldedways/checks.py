@@ -4,6 +4,7 @@ from foldedways.errors import BadValue
 from foldedways.letters import letters_of
 
 MOST_LETTERS = 24
+MOST_LONG_LETTERS = 100
 HIGHEST_RANK = 3
 
 
@@ -58,6 +59,12 @@ def check_rank(value):
 def check_word(value, rank, name):
     """Raise BadValue with the name if the value is not a word of the rank."""
     if not is_spelled(value, rank, MOST_LETTERS):
+        raise BadValue(name)
+
+
+def check_long_word(value, rank, name):
+    """Raise BadValue with the name if the value is not a string of at most 100 letters of the rank."""
+    if not is_spelled(value, rank, MOST_LONG_LETTERS):
         raise BadValue(name)
 
 

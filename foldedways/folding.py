@@ -24,6 +24,13 @@ def check_family(value):
         raise BadValue("family")
 
 
+def check_two_families(family, other):
+    """Raise BadValue if the one is not a family, or the other one not a family of the same rank."""
+    check_family(family)
+    if not is_family(other) or other[0] != family[0]:
+        raise BadValue("other")
+
+
 def identified(family):
     """Return the tuple with the least point with which each point is identified."""
     check_family(family)

@@ -17,14 +17,36 @@ def folded_graph(family):
     rank, given = family
     edges, ends = petals_of(given)
     least = least_points(edges, ends)
-    return numbered(rank, [(least[start], letter, least[end]) for start, letter, end in edges])
+    return numbered(rank, [(least[start], letter, least[end]) for start, letter, end in edges], 0)
 
 
-def numbered(rank, edges):
-    """Return the graph of these edges, with its vertices numbered as they are found from 0 on."""
-    ways = first_ways(moves_along(edges), letters_of(rank), 0)
+def numbered(rank, edges, first):
+    """Return the graph of these edges, with its vertices numbered as they are found from the first one on."""
+    ways = first_ways(moves_along(edges), letters_of(rank), first)
     numbers = {place: number for number, place in enumerate(ways)}
     return len(ways), tuple(sorted({(numbers[start], letter, numbers[end]) for start, letter, end in edges}))
+
+
+def neat_graph(rank, edges, first):
+    """Return the neat graph of these edges, of which each can be reached from the first vertex."""
+    kept = list(edges)
+    many = -1
+    while many != len(kept):
+        many = len(kept)
+        ends = count_ends(kept)
+        # The first vertex stays, however few edge ends it has.
+        ends[first] = 2
+        kept = [(start, letter, end) for start, letter, end in kept if ends[start] > 1 and ends[end] > 1]
+    return numbered(rank, kept, first)
+
+
+def count_ends(edges):
+    """Return how many edge ends each vertex has."""
+    ends = {}
+    for start, _, end in edges:
+        ends[start] = ends.get(start, 0) + 1
+        ends[end] = ends.get(end, 0) + 1
+    return ends
 
 
 def is_neat(rank, value):
@@ -40,8 +62,8 @@ def is_neat(rank, value):
     ways = first_ways(moves, letters_of(rank), 0)
     if len(ways) != vertices or list(ways) != list(range(vertices)):
         return False
-    ends = [place for place, _ in moves]
-    return all([ends.count(vertex) > 1 for vertex in range(1, vertices)])
+    ends = count_ends(edges)
+    return all([ends[vertex] > 1 for vertex in range(1, vertices)])
 
 
 def is_graph(rank, value):

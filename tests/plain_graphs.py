@@ -65,9 +65,9 @@ def step(edges, vertex, letter):
     return sorted({start for start, told, end in edges if (end, told) == (vertex, OPPOSITES[letter])})
 
 
-def plain_numbered(rank, edges):
-    """Number the vertices as they are found from 0 on."""
-    found = [0]
+def plain_numbered(rank, edges, first=0):
+    """Number the vertices as they are found from the first one on."""
+    found = [first]
     for vertex in found:
         for letter in LETTERS[:2 * rank]:
             found += [other for other in step(edges, vertex, letter) if other not in found]

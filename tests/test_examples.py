@@ -7,13 +7,17 @@ from foldedways.actions import image, least_power
 from foldedways.answers import answer_for
 from foldedways.bases import basis, smallest_choice
 from foldedways.classes import are_in_one_class, count_classes, first_words
+from foldedways.comparing import both_basis, common_basis, telling_word
 from foldedways.completing import attached, full_action, further_words
+from foldedways.conjugates import conjugate_basis, conjugator
 from foldedways.derivations import accepts_derivation, derivation_for, expansion
+from foldedways.errors import NotPossible
 from foldedways.graphs import graph_of, paths
 from foldedways.members import first_members
 from foldedways.parting import accepts_parting, evidence_for, parted
 from foldedways.roots import core, root
 from foldedways.words import reduced
+from foldedways.workspace import Workspace
 
 WORDS_AND_ROOTS = """
 >>> from foldedways.roots import common_root, commute, core, root, turned_form, turning_word
@@ -139,6 +143,51 @@ MEMBERS_AND_CLASSES = """
 >>> accepts_classes(even, class_grounds(even)), accepts_classes(squares, class_grounds(even))
 (True, False)
 """
+COMPARING_AND_SHOWING = """
+>>> from foldedways.comparing import are_equal, both_basis, common_basis, common_graph, is_contained, telling_word
+>>> from foldedways.showing import accepts_apart, accepts_common, accepts_contained, common_evidence, contained_evidence, outside_evidence
+>>> common_basis((1, ("aa",)), (1, ("aaa",))), both_basis((1, ("aa",)), (1, ("aaa",))), telling_word((1, ("aa",)), (1, ("aaa",)))
+(('aaaaaa',), ('a',), 'aa')
+>>> one, other = (2, ("aa", "b")), (2, ("a", "bb"))
+>>> common_basis(one, other), is_contained(one, other), telling_word(one, other)
+(('aa', 'bb'), False, 'a')
+>>> common_graph((2, ("ab",)), (2, ("aB",))), both_basis((2, ("ab",)), (2, ("aB",)))
+((1, ()), ('bA', 'ab'))
+>>> outside_evidence(one, other)
+(1, ((0, 1), (1, 0)))
+>>> accepts_contained((1, ("aaaa",)), (1, ("aa",)), contained_evidence((1, ("aaaa",)), (1, ("aa",))))
+True
+>>> are_equal((2, ("aA",)), (2, ())), common_evidence(one, other, "a")
+(True, ('not', (0, ((1, 0), (0, 1)))))
+>>> accepts_common(one, other, "aab", common_evidence(one, other, "aab")), accepts_apart(one, other, "a", (("none", ((1, 0), (0, 1))), ("member", (("a", (("given", 0, 1),)),))))
+(True, True)
+"""
+CONJUGATES = """
+>>> from foldedways.conjugates import accepts_conjugator, conjugate_basis, conjugate_graph, conjugator, conjugator_evidence, is_conjugator
+>>> conjugate_basis((2, ("a",)), "b"), conjugate_graph((2, ("a",)), "aB"), conjugate_basis((2, ("aa", "bb")), "a")
+(('Bab',), (2, ((0, 'b', 1), (1, 'a', 1))), ('aa', 'abbA'))
+>>> conjugator((2, ("a",)), (2, ("baB",))), conjugator((2, ("a",)), (2, ("Bab",))), conjugator((2, ("a",)), (2, ("b",)))
+('B', 'b', None)
+>>> conjugator((2, ("abA",)), (2, ("BAbab",))), conjugator((2, ("BAbab",)), (2, ("abA",)))
+('aab', 'BAA')
+>>> is_conjugator((2, ("a",)), (2, ("baB",)), "aaB"), is_conjugator((2, ("a",)), (2, ("baB",)), "b")
+(True, False)
+>>> one, other = (2, ("abA",)), (2, ("BAbab",))
+>>> accepts_conjugator(one, other, "aab", conjugator_evidence(one, other, "aab")), conjugator_evidence(one, other, "b") is None
+(True, True)
+"""
+WORKSPACE = """
+>>> from foldedways.workspace import Workspace
+>>> space = Workspace(2)
+>>> space.act(("give", "aa")), space.act(("bind", ((1, 0), (0, 1)))), space.act(("give", "bBb"))
+(1, 2, 3)
+>>> space.family(), space.broken("ab"), space.witness("ab")
+((2, ('aa', 'bBb')), (0,), ('bound', 0))
+>>> space.witness("aab")[0], space.accepts("aba", ("bound", 0)), space.accepts("ab", ("bound", 1))
+('member', False, False)
+>>> space.undo(), space.family(), space.witness("aab")[0]
+(('give', 'bBb'), (2, ('aa',)), 'none')
+"""
 
 
 def run_examples(case, text):
@@ -174,6 +223,15 @@ class Interface(TestCase):
 
     def test_members_and_classes(self):
         run_examples(self, MEMBERS_AND_CLASSES)
+
+    def test_comparing_and_showing(self):
+        run_examples(self, COMPARING_AND_SHOWING)
+
+    def test_conjugates(self):
+        run_examples(self, CONJUGATES)
+
+    def test_workspace(self):
+        run_examples(self, WORKSPACE)
 
 
 class Chapters(TestCase):
@@ -232,3 +290,23 @@ class Chapters(TestCase):
         self.assertEqual((count_classes(more), first_words(more)), (2, ("", "a")))
         for word in ("", "ab", "aBaB", "bA", "a", "abA", "BBB"):
             self.assertIs(are_in_one_class(more, word, ""), len(word) % 2 == 0)
+
+    def test_point_104(self):
+        twos, threes = (1, ("aa",)), (1, ("aaa",))
+        self.assertEqual(common_basis(twos, threes), ("aaaaaa",))
+        self.assertEqual(both_basis(twos, threes), ("a",))
+        self.assertEqual(telling_word(twos, threes), "aa")
+
+    def test_point_114(self):
+        self.assertEqual(conjugate_basis((2, ("a",)), "b"), ("Bab",))
+        self.assertEqual(conjugator((2, ("a",)), (2, ("baB",))), "B")
+        self.assertIs(conjugator((2, ("a",)), (2, ("b",))), None)
+
+    def test_point_125(self):
+        space = Workspace(2)
+        space.act(("give", "aa"))
+        space.act(("bind", ((1, 0), (0, 1))))
+        with self.assertRaises(NotPossible) as caught:
+            space.act(("give", "a"))
+        self.assertEqual(caught.exception.why, "bound")
+        self.assertEqual(space.act(("give", "b")), 3)

@@ -32,7 +32,10 @@ BUILTINS = set("""
 """.split())
 METHODS = set("append count extend get index items join keys pop setdefault swapcase values".split())
 MODIFYING = set("append extend pop setdefault".split())
-CLASSES = {"errors": "WaysError BadValue TooLarge NotPossible TextError".split(), "linking": ["Linking"]}
+CLASSES = {
+    "errors": "WaysError BadValue TooLarge NotPossible TextError".split(), "linking": ["Linking"],
+    "workspace": ["Workspace"],
+}
 LAZY = {"range", "enumerate", "zip", "reversed", "items", "keys", "values"}
 TAKES_LAZY = {"list", "tuple", "dict", "sorted", "sum", "any", "all", "enumerate", "zip", "min", "max"}
 BARRED_NAMES = set("""
@@ -248,17 +251,18 @@ class Form(TestCase):
                 self.assertLessEqual(told, {"key", "default"} if called_name(node) in ("min", "max") else set())
 
     def test_l25_and_l26_methods_and_attributes(self):
+        defined = [below for _, told in each(ast.ClassDef) for below in methods_of(told)]
+        methods = {below.name for below in defined} - {"__init__"}
+        attributes = {told for below in defined for told in attributes_assigned(below)}
+        self.assertFalse(methods & attributes)
         for name, node in each(ast.Attribute):
             with self.at(name, node):
                 above = ABOVE[node]
                 if isinstance(above, ast.Call) and node is above.func and node.attr in METHODS:
                     continue
-                self.assertIn(name, CLASSES)
                 self.assertIsInstance(node.value, ast.Name)
-                methods = [below for told in nodes_of(name, ast.ClassDef) for below in methods_of(told)]
-                attributes = [told for below in methods for told in attributes_assigned(below)]
                 called = isinstance(above, ast.Call) and node is above.func
-                self.assertIn(node.attr, [below.name for below in methods] if called else attributes)
+                self.assertIn(node.attr, methods if called else attributes)
         for name, node in each(ast.Call):
             with self.at(name, node):
                 if called_name(node) == "join":

@@ -51,6 +51,27 @@ FUNCTIONS = {
         "count_classes": "family", "first_words": "family", "are_in_one_class": "family, first, second",
         "class_grounds": "family", "accepts_classes": "family, value",
     },
+    "comparing": {
+        "common_graph": "family, other", "common_basis": "family, other", "both_graph": "family, other",
+        "both_basis": "family, other", "is_contained": "family, other", "are_equal": "family, other",
+        "telling_word": "family, other",
+    },
+    "showing": {
+        "contained_evidence": "family, other", "accepts_contained": "family, other, value",
+        "outside_evidence": "family, other", "accepts_outside": "family, other, value",
+        "accepts_equal": "family, other, value", "accepts_apart": "family, other, word, value",
+        "common_evidence": "family, other, word", "accepts_common": "family, other, word, value",
+    },
+    "conjugates": {
+        "conjugate_graph": "family, word", "conjugate_basis": "family, word", "is_conjugator": "family, other, word",
+        "conjugator": "family, other", "conjugator_evidence": "family, other, word",
+        "accepts_conjugator": "family, other, word, value",
+    },
+}
+WORKSPACE = {
+    "act": "self, command", "undo": "self", "family": "self", "bounds": "self", "journal": "self",
+    "broken": "self, word", "witness": "self, word", "accepts": "self, word, value", "records": "self, word",
+    "twin": "self",
 }
 ERRORS = {
     "BadValue": "name", "TooLarge": "what", "NotPossible": "why", "TextError": "column, words",
@@ -72,6 +93,17 @@ class Interface(TestCase):
                     self.assertTrue(isfunction(function))
                     self.assertEqual(function.__module__, "foldedways." + file)
                     self.assertEqual(parameters(function), told)
+
+    def test_workspace(self):
+        told = import_module("foldedways.workspace").Workspace
+        self.assertTrue(isclass(told))
+        self.assertEqual((told.__module__, parameters(told)), ("foldedways.workspace", "rank"))
+        for name, expected in WORKSPACE.items():
+            with self.subTest(name=name):
+                # The very class has each method, not a base class.
+                method = vars(told)[name]
+                self.assertTrue(isfunction(method))
+                self.assertEqual(parameters(method), expected)
 
     def test_error_classes(self):
         module = import_module("foldedways.errors")

@@ -10,10 +10,10 @@ NO_LETTERS = (
     "x", "d", "D", "1", " ", ".", "a b", "ab ", " a", "a\n", "\n", "a-", "\u00e4", "a\u0410", "\x00", "\ud800")
 
 
-def no_words(rank):
-    """Return values that are no words of the rank."""
+def no_words(rank, most=24):
+    """Return values that are no words of the rank with at most so many letters."""
     beyond = {1: ("b", "B", "aab", "c", "aC"), 2: ("c", "C", "abC"), 3: ()}[rank]
-    return NO_STRINGS + NO_LETTERS + beyond + ("a" * 25, "aA" * 13, "aA" * 500)
+    return NO_STRINGS + NO_LETTERS + beyond + ("a" * (most + 1), "aA" * (most // 2 + 1), "aA" * 500)
 
 
 def no_integers(least, most):
