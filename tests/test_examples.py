@@ -1,6 +1,7 @@
 """The lines of the interface behind >>>, with the answers below them, and the examples of the chapters."""
 
 from doctest import DocTestParser, DocTestRunner
+from pathlib import Path
 from unittest import TestCase
 
 from foldedways.actions import image, least_power
@@ -11,10 +12,11 @@ from foldedways.comparing import both_basis, common_basis, telling_word
 from foldedways.completing import attached, full_action, further_words
 from foldedways.conjugates import conjugate_basis, conjugator
 from foldedways.derivations import accepts_derivation, derivation_for, expansion
-from foldedways.errors import NotPossible
+from foldedways.errors import NotPossible, TextError
 from foldedways.graphs import graph_of, paths
 from foldedways.members import first_members
 from foldedways.parting import accepts_parting, evidence_for, parted
+from foldedways.reading import read_word
 from foldedways.roots import core, root
 from foldedways.words import reduced
 from foldedways.workspace import Workspace
@@ -176,7 +178,8 @@ CONJUGATES = """
 >>> accepts_conjugator(one, other, "aab", conjugator_evidence(one, other, "aab")), conjugator_evidence(one, other, "b") is None
 (True, True)
 """
-WORKSPACE = """
+WORKSPACE_AND_JOURNALS = """
+>>> from foldedways.journals import are_right, replayed
 >>> from foldedways.workspace import Workspace
 >>> space = Workspace(2)
 >>> space.act(("give", "aa")), space.act(("bind", ((1, 0), (0, 1)))), space.act(("give", "bBb"))
@@ -185,8 +188,22 @@ WORKSPACE = """
 ((2, ('aa', 'bBb')), (0,), ('bound', 0))
 >>> space.witness("aab")[0], space.accepts("aba", ("bound", 0)), space.accepts("ab", ("bound", 1))
 ('member', False, False)
+>>> are_right(2, space.records("aab")), replayed(2, space.journal()).family() == space.family()
+(True, True)
 >>> space.undo(), space.family(), space.witness("aab")[0]
 (('give', 'bBb'), (2, ('aa',)), 'none')
+"""
+READING_AND_WRITING = """
+>>> from foldedways.reading import next_tokens, read_action, read_family, read_word
+>>> from foldedways.writing import action_text, family_text, word_text
+>>> read_word(2, "a2(bA)-1[a,b]"), word_text("aaaBabAB"), read_word(1, ".")
+('aaaBabAB', 'a3BabAB', '')
+>>> read_family("2: a2, (ab)2, ."), family_text((2, ("aa", "abab", "")))
+((2, ('aa', 'abab', '')), '2: a2, abab, .')
+>>> read_action("1 0 2; 2 1 0"), action_text(((1, 0, 2), (2, 1, 0)))
+(((1, 0, 2), (2, 1, 0)), '1 0 2; 2 1 0')
+>>> next_tokens("a2", "word"), next_tokens("[a", "word")
+(['a letter', '"("', '"["', 'the end'], ['a letter', 'a number', '"("', '"["', '","', '"-"'])
 """
 
 
@@ -230,8 +247,20 @@ class Interface(TestCase):
     def test_conjugates(self):
         run_examples(self, CONJUGATES)
 
-    def test_workspace(self):
-        run_examples(self, WORKSPACE)
+    def test_workspace_and_journals(self):
+        run_examples(self, WORKSPACE_AND_JOURNALS)
+
+    def test_reading_and_writing(self):
+        run_examples(self, READING_AND_WRITING)
+
+    def test_the_last_call(self):
+        with self.assertRaises(TextError) as caught:
+            read_word(2, "ab(ab)12")
+        self.assertEqual((caught.exception.column, caught.exception.words), (3, "a word has at most 24 letters"))
+
+    def test_the_read_me(self):
+        text = (Path(__file__).resolve().parent.parent / "README.md").read_text(encoding="utf-8")
+        run_examples(self, text.replace("```", ""))
 
 
 class Chapters(TestCase):
@@ -310,3 +339,6 @@ class Chapters(TestCase):
             space.act(("give", "a"))
         self.assertEqual(caught.exception.why, "bound")
         self.assertEqual(space.act(("give", "b")), 3)
+
+    def test_point_136(self):
+        self.assertEqual(read_word(3, "a2(bA)-1[a,b]"), "aa" + "aB" + "abAB")

@@ -34,7 +34,7 @@ METHODS = set("append count extend get index items join keys pop setdefault swap
 MODIFYING = set("append extend pop setdefault".split())
 CLASSES = {
     "errors": "WaysError BadValue TooLarge NotPossible TextError".split(), "linking": ["Linking"],
-    "workspace": ["Workspace"],
+    "workspace": ["Workspace"], "spelling": ["Speller"],
 }
 LAZY = {"range", "enumerate", "zip", "reversed", "items", "keys", "values"}
 TAKES_LAZY = {"list", "tuple", "dict", "sorted", "sum", "any", "all", "enumerate", "zip", "min", "max"}
@@ -163,8 +163,29 @@ class Form(TestCase):
                     self.assertIsInstance(statement, allowed)
                     if isinstance(statement, ast.Assign):
                         self.assertEqual([target.__class__ for target in statement.targets], [ast.Name])
-                        self.assertIsInstance(ast.literal_eval(statement.value), (int, str, tuple))
+                        value = ast.literal_eval(statement.value)
+                        self.assertIsInstance(value, (int, str, tuple, dict))
+                        parts = [*value, *value.values()] if isinstance(value, dict) else [value]
+                        self.assertLessEqual({part.__class__ for part in parts}, {int, str, tuple})
         self.assertEqual(len(TREES["__init__"].body), 1)
+
+    def test_l15_dicts_at_module_level_are_only_read(self):
+        for name, tree in TREES.items():
+            dicts = [statement.targets[0].id for statement in tree.body
+                     if isinstance(statement, ast.Assign) and isinstance(statement.value, ast.Dict)]
+            for node in nodes_of(name, ast.Name):
+                if node.id in dicts and isinstance(node.ctx, ast.Load):
+                    with self.at(name, node):
+                        above = ABOVE[node]
+                        in_loop = isinstance(above, (ast.For, ast.comprehension)) and node is above.iter
+                        item = isinstance(above, ast.Subscript) and node is above.value
+                        got = isinstance(above, ast.Attribute) and above.attr == "get"
+                        self.assertTrue(in_loop or got or item and isinstance(above.ctx, ast.Load))
+            for node in nodes_of(name, ast.ImportFrom):
+                for alias in node.names:
+                    told = [statement for statement in TREES[node.module.split(".")[1]].body
+                            if isinstance(statement, ast.Assign) and statement.targets[0].id == alias.name]
+                    self.assertFalse([statement for statement in told if isinstance(statement.value, ast.Dict)])
 
     def test_l4_functions(self):
         for name, node in each(ast.FunctionDef):
@@ -314,7 +335,7 @@ class Form(TestCase):
             for token in generate_tokens(StringIO(text).readline):
                 with self.subTest(file=name, line=token.start[0]):
                     if token.exact_type == STRING:
-                        self.assertNotIn("\\", token.string)
+                        self.assertNotIn("\\", token.string.replace("\\n", ""))
                         self.assertNotIn("%", token.string)
                     if token.exact_type != COMMENT and token.start[0] not in lines:
                         self.assertIsNone(BARRED_WORDS.search(token.string))

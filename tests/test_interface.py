@@ -67,6 +67,12 @@ FUNCTIONS = {
         "conjugator": "family, other", "conjugator_evidence": "family, other, word",
         "accepts_conjugator": "family, other, word, value",
     },
+    "journals": {"replayed": "rank, journal", "are_right": "rank, records"},
+    "scanning": {"scan": "text"},
+    "reading": {
+        "next_tokens": "text, kind", "read_word": "rank, text", "read_family": "text", "read_action": "text",
+    },
+    "writing": {"word_text": "word", "family_text": "family", "action_text": "action"},
 }
 WORKSPACE = {
     "act": "self, command", "undo": "self", "family": "self", "bounds": "self", "journal": "self",
