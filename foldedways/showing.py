@@ -89,4 +89,4 @@ def accepts_common(family, other, word, value):
         return shows_member(family, word, first) and shows_member(other, word, second)
     if kind != "not" or not is_integer(first, 0, 1):
         return False
-    return is_against((family, other)[first], [word], second)
+    return is_against(other if first == 1 else family, [word], second)

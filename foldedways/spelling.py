@@ -40,7 +40,7 @@ class Speller:
             # The number can be great, so the part is not spelled out before this is known.
             if len(word) + len(part) * abs(times) > MOST_LETTERS:
                 raise TextError(column, "a word has at most 24 letters")
-            word += part * times if times > 0 else backwards(part) * -times
+            word += (part if times > 0 else backwards(part)) * abs(times)
         return word
 
     def base(self):

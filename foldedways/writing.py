@@ -23,8 +23,9 @@ def family_text(family):
     """Return the text of the family."""
     check_family(family)
     rank, given = family
-    text = str(rank) + ":"
-    return text + " " + ", ".join([word_text(word) for word in given]) if given else text
+    if not given:
+        return str(rank) + ":"
+    return str(rank) + ": " + ", ".join([word_text(word) for word in given])
 
 
 def action_text(action):

@@ -12,7 +12,7 @@ from tests.plain import (
 from tests.plain_completing import plain_attached, plain_completed
 from tests.plain_graphs import loops_of, plain_graph, plain_numbered, plain_walk, some_families, step
 from tests.test_folding import EDGES, FAMILIES, NO_FAMILIES
-from tests.wrong import NO_RANKS, NO_TUPLES, check_wrong_arguments, no_words
+from tests.wrong import NO_RANKS, NO_TUPLES, check_odd_forms, check_wrong_arguments, no_words
 
 ALL = FAMILIES + EDGES
 SQUARES = (2, ("aa", "bb"))
@@ -362,6 +362,9 @@ class IsNeat(TestCase):
                 self.assertIs(is_neat(1, value), False)
         for letter in ("ab", "bc", "abc", "", "A", "c", "C"):
             self.assertIs(is_neat(2, (1, ((0, letter, 0),))), False)
+
+    def test_values_of_every_other_kind(self):
+        check_odd_forms(self, lambda value: is_neat(2, value), graph_of(SQUARES))
 
     def test_lists_are_left_as_they_are(self):
         value = [1, [[0, "a", 0]]]

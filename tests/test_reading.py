@@ -10,7 +10,7 @@ from tests.plain_texts import (
     KINDS, ORDER, Problem, coming_at, drawn_tokens, expected, kind_of, plain_action, plain_family, plain_word, spaced,
     spoilt_tokens)
 from tests.test_scanning import NO_TEXTS, NO_TOKEN, TOO_DEEP, TOO_LONG, told
-from tests.wrong import NO_RANKS, check_wrong_arguments
+from tests.wrong import NO_RANKS, Unequal, check_wrong_arguments
 
 NO_LETTER, LONG_WORD = "there is no such letter", "a word has at most 24 letters"
 BAD_RANK, MANY_WORDS = "a rank is from 1 to 3", "there are at most 4 given words"
@@ -412,7 +412,7 @@ class WrongArguments(TestCase):
 
     def test_text_and_kind(self):
         kinds = (None, 0, 1, True, b"word", "", "Word", "words", "actions", "w", "wor", " word", "word ", "text", ("word",),
-                 ["word"], {"word"}, {"word": 1}, "wordfamily", "SPELLED", "spelled", 1.5, "word\n", object())
+                 ["word"], {"word"}, {"word": 1}, "wordfamily", "SPELLED", "spelled", 1.5, "word\n", object(), Unequal())
         for kind in KINDS:
             for text in ("", "1", " " * 400):
                 if kind == "word" and text == "1":

@@ -397,6 +397,11 @@ class CommonEvidence(TestCase):
             evidence = common_evidence(ONE, OTHER, word)
             check_odd_forms(self, lambda value: accepts_common(ONE, OTHER, word, value), evidence)
 
+    def test_no_index_of_the_other_family_from_behind(self):
+        self.assertIs(accepts_common(ONE, OTHER, "b", ("not", (1, ((0, 1), (1, 0))))), True)
+        for which in (-1, -2, 2, 0):
+            self.assertIs(accepts_common(ONE, OTHER, "b", ("not", (which, ((0, 1), (1, 0))))), False)
+
     def test_kinds(self):
         for word in ("aabb", "a", "b"):
             kind, evidence = common_evidence(ONE, OTHER, word)

@@ -427,6 +427,7 @@ def no_commands(rank):
                                  (("give",), "a"), ("undo", 0), ("bound", 0), ("give", 0), ("bind", 0), ("drop", "a"),
                                  ("loose", SWAP), ("drop",), ("drop", 0, 0), {"give": "a"}, (b"give", "a"), (["give"], "a"))
     wrong += tuple(("give", word) for word in words) + tuple(("bind", action) for action in actions)
+    wrong += tuple((kind, told) for kind in NEVER for told in ("a", 0))
     return wrong + tuple((kind, number) for kind in ("drop", "loose") for number in numbers)
 
 
@@ -456,7 +457,7 @@ class WrongArguments(TestCase):
                 for word in ("", "a" * 24, "aA" * 12):
                     for method in (space.broken, space.witness, space.records):
                         check_wrong_arguments(self, method, ("word", word, no_words(rank)))
-                    for value in (None, ("bound", 0), ()):
+                    for value in (None, ("bound", 0), (), ("bound", None), ("bound", 3)):
                         check_wrong_arguments(
                             self, lambda told: space.accepts(told, value), ("word", word, no_words(rank)))
                 self.assertEqual((space.journal(), space.family()), before)
